@@ -1,0 +1,1 @@
+"""Nets of posts that put rows of numbers in order."""
