@@ -4,12 +4,7 @@ import unittest
 
 from postnet.bits import as_bits, first_unsorted, is_rising, sorts
 from postnet.posts import run, walked
-from tests.nets import HUNDRED_FIGURES, WIDTH_4, some_nets
-
-
-def neighbours(first, last):
-    """Posts between neighbours that put the lanes from first to last in order."""
-    return [(lane, lane + 1) for end in range(last, first, -1) for lane in range(first, end)]
+from tests.nets import HUNDRED_FIGURES, WIDTH_4, neighbours, some_nets
 
 
 def expected_first_unsorted(width, posts):

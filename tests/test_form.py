@@ -23,8 +23,8 @@ def trees():
 class FormTest(unittest.TestCase):
     def test_modules_are_there(self):
         names = [path.name for path in FILES]
-        for name in ("__init__.py", "errors.py", "posts.py", "bits.py"):
-            self.assertIn(name, names)
+        for name in ("__init__", "errors", "posts", "bits", "building", "thinning", "layers", "notes"):
+            self.assertIn(name + ".py", names)
 
     def test_imports_are_the_packages_own(self):
         for name, tree in trees():

@@ -1,8 +1,12 @@
 import unittest
 
 from postnet.bits import first_unsorted, sorts
+from postnet.building import built, plain
 from postnet.errors import BadPost, BadRow, NetError, TooWide
+from postnet.layers import chain, layers
+from postnet.notes import shown
 from postnet.posts import mirrored, run, walked
+from postnet.thinning import is_lean, rows_acting, thinned
 
 GOOD = [(0, 1), (1, 2), (0, 2)]
 
@@ -13,14 +17,23 @@ def rows_of(call):
 
 
 WITH_A_ROW = {"run": run, "walked": walked}
-WITH_ALL_ROWS = {"first_unsorted": first_unsorted, "sorts": sorts}
+WITH_ALL_ROWS = {
+    "first_unsorted": first_unsorted,
+    "sorts": sorts,
+    "rows_acting": rows_acting,
+    "thinned": thinned,
+    "is_lean": is_lean,
+}
 WITH_A_NET = {
     "run": rows_of(run),
     "walked": rows_of(walked),
     "mirrored": mirrored,
-    "first_unsorted": first_unsorted,
-    "sorts": sorts,
+    "layers": layers,
+    "chain": chain,
+    "shown": shown,
+    **WITH_ALL_ROWS,
 }
+WITH_A_WIDTH = {"built": built, "plain": plain}
 
 
 class RefusalTest(unittest.TestCase):
@@ -91,6 +104,19 @@ class BadPostTest(RefusalTest):
                 call(2, [(0, 1)])
                 call(4, [(0, 3), (2, 3), (0, 1), (0, 3)])
 
+    def test_width_alone(self):
+        for name, call in WITH_A_WIDTH.items():
+            for width in (0, -1, -2, -7, -1000, -10 ** 99, -10 ** 5000):
+                with self.subTest(call=name, bits=width.bit_length()):
+                    self.assert_refuses(BadPost, call, width)
+            self.assertEqual(call(1), [])
+
+    def test_refused_posts_are_left_as_they_were(self):
+        for call in WITH_A_NET.values():
+            posts = [(1, 2), (0, 1), (0, 3)]
+            self.assert_refuses(BadPost, call, 3, posts)
+            self.assertEqual(posts, [(1, 2), (0, 1), (0, 3)])
+
 
 class BadRowTest(RefusalTest):
     def test_another_length(self):
@@ -141,6 +167,9 @@ class TooWideTest(RefusalTest):
     def test_twelve_lanes_are_tried(self):
         self.assertEqual(first_unsorted(12, []), [0] * 10 + [1, 0])
         self.assertIs(sorts(12, []), False)
+        self.assertEqual(rows_acting(12, [(0, 11)]), [[1] + [0] * 11])
+        self.assertEqual(thinned(12, [(0, 11), (0, 11)]), [(0, 11)])
+        self.assertIs(is_lean(12, [(0, 11)]), True)
 
     def test_behind_bad_post(self):
         for name, call in WITH_ALL_ROWS.items():
@@ -149,6 +178,23 @@ class TooWideTest(RefusalTest):
                     self.assert_refuses(BadPost, call, 13, [post])
                     self.assert_refuses(BadPost, call, 13, [(0, 12), post])
                     self.assert_refuses(BadPost, call, 13, [post, (0, 12)])
+
+    def test_behind_bad_post_for_any_width(self):
+        for name, call in WITH_ALL_ROWS.items():
+            for width in (13, 14, 100, 1000, 1001):
+                with self.subTest(call=name, width=width):
+                    self.assert_refuses(BadPost, call, width, [(0, 1), (0, width)])
+
+    def test_refused_posts_are_left_as_they_were(self):
+        for call in WITH_ALL_ROWS.values():
+            posts = [(1, 2), (0, 1), (0, 1)]
+            self.assert_refuses(TooWide, call, 13, posts)
+            self.assertEqual(posts, [(1, 2), (0, 1), (0, 1)])
+
+    def test_wide_nets_are_told_in_layers_and_lines(self):
+        self.assertEqual(layers(13, [(0, 12)]), [[(0, 12)]])
+        self.assertEqual(chain(13, [(0, 12)]), [0])
+        self.assertEqual(shown(13, [(0, 12)]), ["13", "0:12"])
 
     def test_wide_nets_are_run_and_mirrored(self):
         self.assertEqual(run(13, [(0, 12)], [1] + [0] * 12), [0] * 12 + [1])
